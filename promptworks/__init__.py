@@ -1,0 +1,1 @@
+"""Tasks, locks, buses and plans that keep what was promised ahead."""
