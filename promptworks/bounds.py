@@ -1,9 +1,8 @@
 """Bounds: how long a job of a task lasts at the most, told ahead by sums."""
 
+from math import lcm
 
-def more_urgent(plan, task):
-    """The tasks of a plan that are more urgent than this one, by rank."""
-    return [other for other in plan.tasks() if other.rank < task.rank]
+from promptworks.ranks import more_urgent
 
 
 def comings(task, ticks):
@@ -24,17 +23,30 @@ def asked_once(plan, task):
 def right_side(plan, name, ticks):
     """The right side of the task of this name for a number of ticks."""
     task = plan.task(name)
-    return demanded(asked_once(plan, task), more_urgent(plan, task), ticks)
+    return demanded(asked_once(plan, task), more_urgent(plan.tasks(), task), ticks)
+
+
+def least_beginning(first, ahead):
+    """A number that no number which is its own right side is below; None where those ahead fill all time."""
+    # Rounded up nothing gets less: such a number is at least what is asked without rounding, which
+    # is first + lead / whole + that number * load / whole.
+    whole = 1
+    for task in ahead:
+        whole = lcm(whole, task.gap)
+    load = sum([task.most * (whole // task.gap) for task in ahead])
+    lead = sum([task.most * task.wait * (whole // task.gap) for task in ahead])
+    if load >= whole:
+        return None
+    return -(-(first * whole + lead) // (whole - load))
 
 
 def bound(plan, name):
     """By how much a job's arrival is behind its end at the most; None where that is beyond the due."""
     task = plan.task(name)
     first = asked_once(plan, task)
-    ahead = more_urgent(plan, task)
-    # No right side is below what is asked once, so the least number that is its own is not either.
-    ticks = first
-    while task.wait + ticks <= task.due:
+    ahead = more_urgent(plan.tasks(), task)
+    ticks = least_beginning(first, ahead)
+    while ticks is not None and task.wait + ticks <= task.due:
         more = demanded(first, ahead, ticks)
         if more == ticks:
             return task.wait + ticks
@@ -44,4 +56,7 @@ def bound(plan, name):
 
 def is_kept(plan):
     """Whether each task of the plan has a bound."""
-    return all([bound(plan, task.name) is not None for task in plan.tasks()])
+    for task in plan.tasks():
+        if bound(plan, task.name) is None:
+            return False
+    return True

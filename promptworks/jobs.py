@@ -2,7 +2,7 @@
 
 
 class Job:
-    """A job of a task, from when it is let in."""
+    """A job of a task, or of a message, from when it is let in."""
 
     def __init__(self, owner, number, arrival, release, work):
         self.owner = owner
@@ -12,6 +12,11 @@ class Job:
         self.work = work
         self.done = 0
         self.end = None
+
+
+def row_of(job):
+    """The job as it is told: (name, number, arrival, release, work, done, end)."""
+    return (job.owner.name, job.number, job.arrival, job.release, job.work, job.done, job.end)
 
 
 def locks_of(job):

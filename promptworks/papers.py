@@ -1,8 +1,9 @@
 """Papers: sums by which a plan is kept, or wishes by which it isn't, and whether such are right."""
 
-from promptworks.bounds import bound, comings, more_urgent, right_side
+from promptworks.bounds import bound, comings, right_side
 from promptworks.errors import NoBound
 from promptworks.gates import let_in
+from promptworks.ranks import more_urgent
 from promptworks.tasks import is_number
 from promptworks.works import Works
 
@@ -13,7 +14,7 @@ def paper(plan):
     for task in plan.tasks():
         told = bound(plan, task.name)
         if told is None:
-            return ("late", task.name, pressing(plan, task, task.due - task.wait))
+            return ("late", task.name, late_wishes(plan, task.name))
         ticks[task.name] = told - task.wait
     return ("kept", ticks)
 
@@ -27,6 +28,12 @@ def meeting(plan, name):
     return pressing(plan, task, told - task.wait)
 
 
+def late_wishes(plan, name):
+    """Wishes within the limits by which a job of the task, which has no bound, is late."""
+    task = plan.task(name)
+    return pressing(plan, task, task.due - task.wait)
+
+
 def pressing(plan, task, ticks):
     """Wishes that ask of the ticks behind a release of the task's all that may be asked, by hours."""
     hour = 0
@@ -38,7 +45,7 @@ def pressing(plan, task, ticks):
         hour = start + 1
         wishes.append((0, holder, plan.task(holder).most))
     wishes.append((hour, task.name, task.most))
-    for other in more_urgent(plan, task):
+    for other in more_urgent(plan.tasks(), task):
         # Those that have arrived by the hour have waited for it, the later ones come as close as they may.
         for place in range(comings(other, ticks)):
             arrival = hour - other.wait + place * other.gap

@@ -1,6 +1,7 @@
 """Plans: tasks of unlike names and ranks, and the locks that they share."""
 
-from promptworks.errors import NoLock, NoTask, Shared, Twice
+from promptworks.errors import NoLock, NoTask
+from promptworks.ranks import by_rank
 from promptworks.tasks import copy_of
 
 
@@ -8,16 +9,7 @@ class Plan:
     """Tasks that share a processor. A plan never changes: it takes copies in and tells copies."""
 
     def __init__(self, tasks=()):
-        names = {}
-        ranks = {}
-        for task in tasks:
-            if task.name in names:
-                raise Twice(task.name)
-            if task.rank in ranks:
-                raise Shared(task.rank)
-            names[task.name] = True
-            ranks[task.rank] = task
-        self._tasks = {ranks[rank].name: copy_of(ranks[rank]) for rank in sorted(list(ranks))}
+        self._tasks = {task.name: copy_of(task) for task in by_rank(tasks)}
         self._ceilings = {}
         for task in self._tasks.values():
             for section in task.sections:

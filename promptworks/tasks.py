@@ -48,26 +48,34 @@ def are_sections(rows, most):
     return all([fit(row, rows[at]) for place, row in enumerate(rows) for at in range(place)])
 
 
+def wrong_part(name, rank, gap, most, due, wait):
+    """The first of these parts that isn't as a task's must be, of anything; None where all are."""
+    if not is_name(name):
+        return "name"
+    if not is_number(rank, 1):
+        return "rank"
+    if not is_number(gap, 1):
+        return "gap"
+    if not is_number(most, 1):
+        return "most"
+    if not is_number(due, 1) or due > gap:
+        return "due"
+    if not is_number(wait, 0):
+        return "wait"
+    return None
+
+
 class Task:
     """A task, with all that is told of it; its sections in the order in which they are written."""
 
     def __init__(self, name, *, rank, gap, most, due=None, wait=0, sections=()):
-        if not is_name(name):
-            raise BadTask("name")
-        if not is_number(rank, 1):
-            raise BadTask("rank")
-        if not is_number(gap, 1):
-            raise BadTask("gap")
-        if not is_number(most, 1):
-            raise BadTask("most")
         if due is None:
             due = gap
-        if not is_number(due, 1) or due > gap:
-            raise BadTask("due")
-        if not is_number(wait, 0):
-            raise BadTask("wait")
-        if not are_sections(sections, most):
-            raise BadTask("sections")
+        part = wrong_part(name, rank, gap, most, due, wait)
+        if part is None and not are_sections(sections, most):
+            part = "sections"
+        if part is not None:
+            raise BadTask(part)
         self.name = name
         self.rank = rank
         self.gap = gap
@@ -85,7 +93,10 @@ class Task:
         return f"{self.name} rank {self.rank}"
 
 
-def copy_of(task):
-    """A task like this one: what is done to one of them later isn't done to the other."""
-    return Task(task.name, rank=task.rank, gap=task.gap, most=task.most, due=task.due, wait=task.wait,
-                sections=task.sections)
+def copy_of(task, *, rank=None, gap=None, most=None, wait=None):
+    """A task like this one, but for what is told; its due is the gap where that is less."""
+    if gap is None:
+        gap = task.gap
+    return Task(task.name, rank=task.rank if rank is None else rank, gap=gap,
+                most=task.most if most is None else most, due=min(task.due, gap),
+                wait=task.wait if wait is None else wait, sections=task.sections)

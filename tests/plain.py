@@ -1,4 +1,4 @@
-"""A plain machine that goes tick by tick, plain sums, and plans by chance, to hold the program against."""
+"""Plain machines that go tick by tick, plain sums, and plans by chance, to hold the program against."""
 
 from promptworks.plans import Plan
 from promptworks.tasks import Task
@@ -102,6 +102,60 @@ class PlainRun:
             else:
                 rows.append((tick, tick + 1) + job)
         return rows
+
+
+def plain_until(run, job):
+    return run.hour if job.end is None else job.end
+
+
+def plain_parts(run, task, number):
+    """Of a plain run: a job's time, tick by tick, among those who had it."""
+    job = [each for each in run.known if each.told() == (task, number)][0]
+    ranks = {each.name: each.rank for each in run.tasks}
+    told = {}
+    for tick in range(min(job.arrival, job.release), plain_until(run, job)):
+        if tick < job.release:
+            key = "held"
+        else:
+            key = run.ticks[tick]
+            assert key is not None
+            if key == (task, number):
+                key = "own"
+            elif key[0] == task:
+                assert key[1] < number
+                key = "elder"
+            else:
+                assert ranks[key[0]] != job.task.rank
+        told[key] = told.get(key, 0) + 1
+    return told
+
+
+def plain_stretch_begin(run, job):
+    """The hour back from the job's release at which its stretch begins, hour by hour."""
+    others = [each for each in run.known if each.task.rank <= job.task.rank]
+    hour = job.release
+    while any(each.release < hour and (each.end is None or each.end > hour) for each in others):
+        hour -= 1
+    return hour
+
+
+def plain_blamed(run, gate, guard, task, number):
+    """Of a plain run: who is blamed for a job's stretch."""
+    job = [each for each in run.known if each.told() == (task, number)][0]
+    told = []
+    if job.release >= run.hour:
+        return told
+    begin = plain_stretch_begin(run, job)
+    for each in run.known:
+        if not begin <= each.release < plain_until(run, job):
+            continue
+        if each.task.rank > job.task.rank or (each.task.name == task and each.number > number):
+            continue
+        if not gate and each.hour < each.arrival:
+            told.append(each.told() + ("early",))
+        if not guard and each.work > each.task.most and each.done >= each.task.most:
+            told.append(each.told() + ("long",))
+    return told
 
 
 def plain_held_back(tasks, task):

@@ -70,6 +70,34 @@ class TestForm(unittest.TestCase):
             for name in free:
                 del ahead[name]
 
+    def test_no_local_name_is_that_of_an_import_or_a_class(self):
+        for name, tree in trees():
+            taken = {each.name for node in tree.body if isinstance(node, ast.ImportFrom) for each in node.names}
+            taken |= {node.name for node in tree.body if isinstance(node, ast.ClassDef)}
+            for node in ast.walk(tree):
+                if isinstance(node, ast.arg):
+                    self.assertNotIn(node.arg, taken, (name, node.lineno))
+                if isinstance(node, ast.Name) and isinstance(node.ctx, ast.Store):
+                    self.assertNotIn(node.id, taken, (name, node.lineno))
+
+    def test_lists_alone_where_classes_compare(self):
+        for name, tree in trees():
+            for node in ast.walk(tree):
+                self.assertNotIsInstance(node, ast.GeneratorExp, name)
+                self.assertNotIsInstance(node, (ast.Yield, ast.YieldFrom), name)
+                if isinstance(node, ast.Attribute):
+                    self.assertNotEqual(node.attr, "sort", (name, node.lineno))
+
+    def test_no_name_is_a_method_and_an_attribute_of_a_class(self):
+        for name, tree in trees():
+            for node in ast.walk(tree):
+                if isinstance(node, ast.ClassDef):
+                    methods = [each.name for each in node.body if isinstance(each, ast.FunctionDef)]
+                    self.assertEqual(len(methods), len(set(methods)), name)
+                    kept = {each.attr for each in ast.walk(node) if isinstance(each, ast.Attribute)
+                            and isinstance(each.ctx, ast.Store)}
+                    self.assertEqual(kept & set(methods), set(), (name, node.name))
+
     def test_only_the_words_that_are_let_in(self):
         python = set(dir(__builtins__) if not isinstance(__builtins__, dict) else __builtins__)
         for name, tree in trees():
