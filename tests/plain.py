@@ -1,5 +1,6 @@
 """Plain machines that go tick by tick, plain sums, and plans by chance, to hold the program against."""
 
+from promptworks.buses import Bus, Message
 from promptworks.plans import Plan
 from promptworks.tasks import Task
 
@@ -185,6 +186,177 @@ def plain_bound(tasks, task):
     return None
 
 
+class PlainLine:
+    """The sendings of a bus up to an hour, done tick by tick."""
+
+    def __init__(self, messages, wishes, spoils, hour, gate=True):
+        mosts = {message.name: message.most for message in messages}
+        self.jobs = plain_jobs(messages, [(wished, name, mosts[name]) for wished, name in wishes], gate)
+        self.hour = hour
+        self.rows = []
+        going = None
+        begin = None
+        for tick in range(hour):
+            ready = [job for job in self.jobs if job.release <= tick and job.end is None]
+            if going is None and ready:
+                going = min(ready, key=lambda job: (job.task.rank, job.number))
+                begin = tick
+            if going is not None and tick in spoils:
+                self.rows.append((begin, tick + 1) + going.told() + ("spoiled",))
+                going = None
+            elif going is not None and tick + 1 - begin == going.task.most:
+                self.rows.append((begin, tick + 1) + going.told() + ("sent",))
+                going.done = going.task.most
+                going.end = tick + 1
+                going = None
+        if going is not None:
+            self.rows.append((begin, hour) + going.told() + ("going",))
+
+    def told(self):
+        return [(job.task.name, job.number, job.arrival, job.release, job.work, job.done, job.end)
+                for job in self.jobs if job.hour < self.hour]
+
+
+def plain_stretch(messages, message, apart):
+    held = max([0] + [other.most - 1 for other in messages if other.rank > message.rank])
+    urgent = [other for other in messages if other.rank <= message.rank]
+    cost = max(other.most for other in urgent)
+    for ticks in range(1, 100 * max(other.gap for other in messages) + 1):
+        total = held + sum(other.most * -(-(ticks + other.wait) // other.gap) for other in urgent)
+        if apart is not None:
+            total += cost * -(-ticks // apart)
+        if total == ticks:
+            return ticks
+    return None
+
+
+def plain_begin(messages, message, apart, place):
+    held = max([0] + [other.most - 1 for other in messages if other.rank > message.rank])
+    ahead = [other for other in messages if other.rank < message.rank]
+    cost = max([message.most] + [other.most for other in ahead])
+    begin = 0
+    while True:
+        total = held + place * message.most + sum(other.most * ((begin + other.wait) // other.gap + 1) for other in ahead)
+        if apart is not None:
+            total += cost * -(-(begin + message.most) // apart)
+        if total == begin:
+            return begin
+        begin += 1
+
+
+def plain_bus_bound(messages, message, apart):
+    stretch = plain_stretch(messages, message, apart)
+    if stretch is None:
+        return None
+    told = []
+    for place in range(-(-(stretch + message.wait) // message.gap)):
+        begin = plain_begin(messages, message, apart, place)
+        told.append(message.wait + begin - place * message.gap + message.most)
+    return max(told) if max(told) <= message.due else None
+
+
+def with_wait(row, wait):
+    """A task or a message like this one that waits so long."""
+    told = {part: thing for part, thing in vars(row).items() if part != "name"}
+    return type(row)(row.name, **{**told, "wait": wait})
+
+
+def plain_net_bounds(nodes, messages, waits, apart):
+    told = {}
+    for node, tasks in nodes.items():
+        rows = [with_wait(task, waits[(node, task.name)]) for task in tasks]
+        for task in rows:
+            told[(node, task.name)] = plain_bound(rows, task)
+    rows = [with_wait(message, waits[(message.name,)]) for message in messages]
+    for message in rows:
+        told[(message.name,)] = plain_bus_bound(rows, message, apart)
+    return told
+
+
+def plain_net_paper(nodes, messages, chains, apart):
+    """("kept", bounds), or ("beyond", links): all that go beyond, those behind one left as they are."""
+    parts = {(node, task.name): task for node in nodes for task in nodes[node]}
+    waits = {link: 0 for chain in chains for link in chain}
+    for chain in chains:
+        waits[chain[0]] = parts[chain[0]].wait
+    while True:
+        told = plain_net_bounds(nodes, messages, waits, apart)
+        later = dict(waits)
+        for chain in chains:
+            for ahead, link in zip(chain, chain[1:]):
+                if told[ahead] is None:
+                    break
+                later[link] = told[ahead]
+        if later == waits:
+            beyond = [link for link in told if told[link] is None]
+            return ("beyond", beyond) if beyond else ("kept", told)
+        waits = later
+
+
+class PlainNet:
+    """The run of a net up to an hour, done tick by tick; chains are lists of links, those of one task too."""
+
+    def __init__(self, nodes, messages, chains, wishes, spoils, hour):
+        self.nodes = nodes
+        self.hour = hour
+        self.behind = {chain[place]: chain[place + 1] for chain in chains for place in range(len(chain) - 1)}
+        self.parts = {(node, task.name): task for node in nodes for task in nodes[node]}
+        self.parts.update({(message.name,): message for message in messages})
+        self.queues = {link: [] for link in self.parts}
+        for chain in chains:
+            node, name = chain[0]
+            own = [(wished, name, work) for wished, where, task, work in wishes if (where, task) == chain[0]]
+            self.queues[chain[0]] = plain_jobs([self.parts[chain[0]]], own, True)
+        going = None
+        for tick in range(hour):
+            ended = []
+            for node in nodes:
+                ended.extend(self.work(node, tick))
+            going = self.send(going, tick, spoils, ended)
+            for link, job in ended:
+                job.end = tick + 1
+                if job.done == job.work and link in self.behind:
+                    behind = self.behind[link]
+                    owner = self.parts[behind]
+                    self.queues[behind].append(PlainJob(owner, job.number, None, None, tick + 1, owner.most))
+        self.lasts = {chain[0]: chain[-1] for chain in chains}
+
+    def work(self, node, tick):
+        """Lets the one at its turn on a node work in a tick; tells whoever is at its end behind it."""
+        ready = [((node, task.name), job) for task in self.nodes[node] for job in self.queues[(node, task.name)]
+                 if job.release <= tick and job.end is None]
+        if not ready:
+            return []
+        link, job = min(ready, key=lambda row: PlainRun.place(self.of(node), row[1]))
+        job.done += 1
+        return [(link, job)] if job.done in (job.work, job.task.most) else []
+
+    def of(self, node):
+        """What a plain run needs to tell the place of a job of this node."""
+        run = PlainRun.__new__(PlainRun)
+        run.tasks = self.nodes[node]
+        return run
+
+    def send(self, going, tick, spoils, ended):
+        """Sends in a tick; tells what is still going behind it."""
+        ready = [job for link, row in self.queues.items() if len(link) == 1 for job in row
+                 if job.release <= tick and job.end is None]
+        if going is None and ready:
+            going = (min(ready, key=lambda job: (job.task.rank, job.number)), tick)
+        if going is None or tick in spoils:
+            return None
+        job, begin = going
+        if tick + 1 - begin < job.task.most:
+            return going
+        job.done = job.work
+        ended.append(((job.task.name,), job))
+        return None
+
+    def ends(self, first):
+        ends = {job.number: job.end for job in self.queues[self.lasts[first]]}
+        return [(job.number, job.arrival, ends.get(job.number)) for job in self.queues[first] if job.hour < self.hour]
+
+
 def random_sections(chance, most, locks):
     """Up to four sections that a task of this most may have."""
     rows = []
@@ -210,6 +382,71 @@ def random_plan(chance, many=4, gaps=(4, 24), most=6, waits=(0, 0, 3, 9), locks=
                           due=chance.choice([None, chance.randint(1, gap)]), wait=chance.choice(waits),
                           sections=random_sections(chance, ticks, locks)))
     return Plan(tasks)
+
+
+def random_bus(chance, many=4, gaps=(4, 24), most=5, waits=(0, 0, 3, 9)):
+    """A bus of up to so many small messages."""
+    messages = []
+    ranks = chance.sample(range(1, 20), many)
+    for place in range(chance.randint(1, many)):
+        gap = chance.randint(*gaps)
+        messages.append(Message("mnopqrst"[place], rank=ranks[place], gap=gap, most=chance.randint(1, most),
+                                due=chance.choice([None, None, chance.randint(1, gap)]), wait=chance.choice(waits)))
+    return Bus(messages)
+
+
+def random_spoils(chance, apart, hour):
+    """Ticks below the hour that are so far apart at least; none where nothing is told."""
+    ticks = []
+    if apart is not None:
+        tick = chance.randrange(2 * apart)
+        while tick < hour:
+            ticks.append(tick)
+            tick += apart + chance.choice([0, 0, 0, 1, 5])
+    return ticks
+
+
+def random_net(chance, gaps=(20, 30, 40), most=4):
+    """Plans by nodes, messages and chains over them, gaps of few kinds; and tasks in no chain."""
+    nodes = {node: [] for node in ["left", "right", "far"][:chance.randint(2, 3)]}
+    messages = []
+    chains = []
+
+    def added(rows, kind, gap, **named):
+        names = "abcdefgh" if kind is Task else "mnopqrst"
+        ranks = [rank for rank in range(1, 20) if rank not in [row.rank for row in rows]]
+        rows.append(kind(names[len(rows)], rank=chance.choice(ranks), gap=gap, most=chance.randint(1, most),
+                         wait=chance.choice([0, 0, 3]), **named))
+        return rows[-1].name
+
+    def task(node, gap):
+        length = chance.randint(1, 3)
+        sections = [(0, length, chance.choice("xy"))]
+        name = added(nodes[node], Task, gap, due=chance.choice([None, None, gap - 5]))
+        row = nodes[node][-1]
+        if length < row.most:
+            nodes[node][-1] = Task(name, rank=row.rank, gap=gap, most=row.most, due=row.due, wait=row.wait, sections=sections)
+        return (node, name)
+
+    for _ in range(chance.randint(1, 3)):
+        gap = chance.choice(gaps)
+        node = chance.choice(list(nodes))
+        chain = [task(node, gap)]
+        for _ in range(chance.choice([0, 1, 1, 2])):
+            node = chance.choice([each for each in nodes if each != node])
+            chain += [added(messages, Message, gap), task(node, gap)]
+        if len(chain) > 1 or chance.random() < 0.5:
+            chains.append(chain)
+    for _ in range(chance.randint(0, 1)):
+        task(chance.choice(list(nodes)), chance.choice(gaps))
+    return nodes, messages, chains
+
+
+def chain_links(nodes, chains):
+    """The chains as links, those of one task that is in none, too."""
+    rows = [[link if type(link) is tuple else (link,) for link in chain] for chain in chains]
+    told = [link for chain in rows for link in chain]
+    return rows + [[(node, task.name)] for node in nodes for task in nodes[node] if (node, task.name) not in told]
 
 
 def random_wishes(chance, plan, many=12, hours=40):
