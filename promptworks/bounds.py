@@ -40,11 +40,8 @@ def least_beginning(first, ahead):
     return -(-(first * whole + lead) // (whole - load))
 
 
-def bound(plan, name):
-    """By how much a job's arrival is behind its end at the most; None where that is beyond the due."""
-    task = plan.task(name)
-    first = asked_once(plan, task)
-    ahead = more_urgent(plan.tasks(), task)
+def least_bound(task, first, ahead):
+    """The task's wait and the least number of ticks that are just what is asked of them; None beyond its due."""
     ticks = least_beginning(first, ahead)
     while ticks is not None and task.wait + ticks <= task.due:
         more = demanded(first, ahead, ticks)
@@ -54,9 +51,20 @@ def bound(plan, name):
     return None
 
 
-def is_kept(plan):
-    """Whether each task of the plan has a bound."""
+def bound(plan, name):
+    """By how much a job's arrival is behind its end at the most; None where that is beyond the due."""
+    task = plan.task(name)
+    return least_bound(task, asked_once(plan, task), more_urgent(plan.tasks(), task))
+
+
+def first_unbound(plan):
+    """The name of the most urgent task that has no bound; None where each has one."""
     for task in plan.tasks():
         if bound(plan, task.name) is None:
-            return False
-    return True
+            return task.name
+    return None
+
+
+def is_kept(plan):
+    """Whether each task of the plan has a bound."""
+    return first_unbound(plan) is None

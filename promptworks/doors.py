@@ -22,15 +22,35 @@ def refuse_wish(now, hour, is_there, name, work):
         raise BadWork(work)
 
 
-class Door:
-    """The wishes of tasks, or of messages, with the gate shut (True) or open."""
+class Numberer:
+    """Makes the jobs of tasks, or of messages, with the gate shut (True) or open."""
 
     def __init__(self, owners, gate):
         self._owners = {owner.name: owner for owner in owners}
         self._gate = gate
+        self._last = {name: None for name in self._owners}
+
+    def knows(self, name):
+        """Whether there is a task, or a message, of this name."""
+        return name in self._owners
+
+    def job_of(self, hour, name, work):
+        """The job of a wish; of one owner the wishes are told in their order."""
+        last = self._last[name]
+        arrival = arrival_of(self._owners[name], hour, None if last is None else last.arrival)
+        job = Job(self._owners[name], 0 if last is None else last.number + 1, arrival,
+                  release_of(hour, arrival, self._gate), work)
+        self._last[name] = job
+        return job
+
+
+class Door:
+    """The wishes of tasks, or of messages, with the gate shut (True) or open."""
+
+    def __init__(self, owners, gate):
+        self._numberer = Numberer(owners, gate)
         # A heap: of one owner the lesser hour, then work, comes first.
         self._coming = []
-        self._last = {name: None for name in self._owners}
 
     def tell(self, hour, name, work):
         """Takes in a wish for an hour that no job has been let in for yet."""
@@ -40,14 +60,6 @@ class Door:
         """The jobs of all wishes for hours below this one that haven't been let in yet."""
         jobs = []
         while self._coming and self._coming[0][0] < hour:
-            jobs.append(self._let_next_in())
+            wished, name, work = heappop(self._coming)
+            jobs.append(self._numberer.job_of(wished, name, work))
         return jobs
-
-    def _let_next_in(self):
-        hour, name, work = heappop(self._coming)
-        last = self._last[name]
-        arrival = arrival_of(self._owners[name], hour, None if last is None else last.arrival)
-        job = Job(self._owners[name], 0 if last is None else last.number + 1, arrival,
-                  release_of(hour, arrival, self._gate), work)
-        self._last[name] = job
-        return job

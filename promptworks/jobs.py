@@ -12,6 +12,12 @@ class Job:
         self.work = work
         self.done = 0
         self.end = None
+        self.is_dropped = False
+
+
+def name_of(job):
+    """The job as it is named: (name, number)."""
+    return (job.owner.name, job.number)
 
 
 def row_of(job):
@@ -38,19 +44,21 @@ def last_tick(job, guard):
     return job.work
 
 
-def ticks_on(job, guard):
-    """How many ticks the job may work on until it leaves a section or is at its end."""
-    # Where it takes a section it only gets more urgent: nobody else comes to work there.
-    marks = [start + length for start, length, lock in job.owner.sections] + [last_tick(job, guard)]
-    return min([mark for mark in marks if mark > job.done]) - job.done
+def section_ends(job):
+    """Behind how many ticks the job leaves its sections."""
+    return [start + length for start, length, lock in job.owner.sections]
 
 
 def is_struck(job):
-    """Whether the job's end came ahead of all its work."""
-    return job.end is not None and job.done < job.work
+    """Whether the job worked all that it may and wasn't done."""
+    return job.end is not None and job.done < job.work and not job.is_dropped
+
+
+def due_of(job):
+    """The hour at which the job is due."""
+    return job.arrival + job.owner.due
 
 
 def is_late(job, now):
     """Whether the job wasn't at its end when it was due, asked now."""
-    due = job.arrival + job.owner.due
-    return due <= now and (job.end is None or job.end > due)
+    return due_of(job) <= now and (job.end is None or job.end > due_of(job))
