@@ -124,7 +124,7 @@ class Desk:
             self._tasks.append(task)
             return DONE
         if row in WORKS:
-            self._begin(row)
+            self._begin_works(row)
             return DONE
         words = row.split(" ")
         things = things_of(words)
@@ -135,7 +135,7 @@ class Desk:
         answer = ANSWERS[words[0]]
         return answer(self._works, things)
 
-    def _begin(self, row):
+    def _begin_works(self, row):
         """Begins works of the tasks told, which are gone whether they make a plan or not."""
         tasks = self._tasks
         self._tasks = []

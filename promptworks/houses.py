@@ -16,7 +16,7 @@ class House:
         self._refuse_plan(first)
         self._tasks = {task.name: True for plan in self._plans.values() for task in plan.tasks()}
         self._now = 0
-        self._terms = [Term(self._plans[first], first, 0)]
+        self._terms = [Term(self._plans[first], first)]
         # A heap: (hour, task, work, the hour for which it was wished).
         self._coming = []
         # The names of the plans to which it is to change, by hours.
@@ -99,9 +99,9 @@ class House:
         """Goes on with those that go on, at most to the hour; begins anew where they are at their end ahead of it."""
         self._now = self._terms[-1].run_out(hour)
         if self._now < hour:
-            self._begin()
+            self._begin_anew()
 
-    def _begin(self):
+    def _begin_anew(self):
         """Begins with the plan of the last change up to now."""
         ripe = [hour for hour in self._asked if hour <= self._now]
         name = self._asked[max(ripe)]
@@ -111,4 +111,4 @@ class House:
         held = [(self._now, task, work, wished) for task, work, wished in self._terms[-1].held()]
         # Sorted rows are a heap.
         self._coming = sorted(held + [(max(self._now, row[0]),) + row[1:] for row in self._coming])
-        self._terms.append(Term(self._plans[name], name, self._now))
+        self._terms.append(Term(self._plans[name], name))

@@ -11,8 +11,7 @@ SECTION = 4
 
 def head_row(kind, thing):
     """What is written of a task and of a message alike."""
-    return (f"{kind} {thing.name} rank {thing.rank} gap {thing.gap} most {thing.most} due {thing.due}"
-            f" wait {thing.wait}")
+    return f"{kind} {thing.name} rank {thing.rank} gap {thing.gap} most {thing.most} due {thing.due} wait {thing.wait}"
 
 
 def task_row(task):

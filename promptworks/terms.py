@@ -5,13 +5,12 @@ from promptworks.processors import Processor
 
 
 class Term:
-    """A plan at work from an hour on, with gate and guard shut."""
+    """A plan at work, with gate and guard shut."""
 
-    def __init__(self, plan, name, begin):
+    def __init__(self, plan, name):
         self.name = name
         self._numberer = Numberer(plan.tasks(), True)
         self._processor = Processor(plan, True)
-        self._processor.run(begin)
         # Pairs of a job that isn't handed over yet and the hour for which it was wished.
         self._waiting = []
 
